@@ -124,8 +124,8 @@ func (t *terminal) restore() {
 	t.tellOther()
 }
 
-// reset makes all as at first. Its event has no line and column: the document gives them to others alone.
+// reset makes all as at first.
 func (t *terminal) reset() {
 	t.begin(t.shown().Rows(), t.shown().Cols())
-	t.tell(api.Event{Kind: api.EvReset})
+	t.tellReset()
 }

@@ -5,6 +5,7 @@ import (
 	"math"
 	"reflect"
 	"slices"
+	"strings"
 	"testing"
 
 	"tactile/api"
@@ -79,6 +80,32 @@ func TestReset(t *testing.T) {
 		d.hold()
 		d.write("\t+\t+")
 		d.probed(acts(probe))
+	}
+}
+
+// TestEventsAreWhereTheCursorIs: the event that was told last is of the cursor's line, in the cursor's column, if it is of no cell.
+func TestEventsAreWhereTheCursorIs(t *testing.T) {
+	const all = "\x1b7|\r|\n|\t|\b|\x1bD|\x1bE|\x1bM|\u0084|\u0085|\u008d|\x1b[B|\x1b[2;2H|\x1b[J|\x1b[L|\x1b[T|\x1b[1;2r|\x1b[?6h|\x1b[?47h|\x1b8|\x1b[?1049l|a|\u4e00|\u0301|\x1bc|\x1b[?1049h|\x1bc|\n|\x1bc"
+	for _, size := range many {
+		for _, state := range states() {
+			x := run(t, size[0], size[1], state)
+			for _, text := range strings.Split(all, "|") {
+				x.Journal()
+				do(x, text)
+				g, told := x.Grid(), x.Journal()
+				if len(told) == 0 {
+					continue
+				}
+				last := told[len(told)-1]
+				ofCell := last.Kind == api.EvPrint || last.Kind == api.EvJoin
+				if last.Line != g.IDs[g.Row] || !ofCell && last.Col != g.Col {
+					t.Fatalf("%v %q, then %q: %s, but %s", size, state, text, say(told), show(g))
+				}
+				if text == "\x1bc" && last.Kind != api.EvReset {
+					t.Fatalf("%v %q: %s", size, state, say(told))
+				}
+			}
+		}
 	}
 }
 

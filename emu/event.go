@@ -19,6 +19,9 @@ func (t *terminal) tellOther() { t.tell(t.here(api.EvOther)) }
 // tellStraight tells of a straight move within the line.
 func (t *terminal) tellStraight() { t.tell(t.here(api.EvStraight)) }
 
+// tellReset tells that all is as at first. It is of no cell, so that it has the line and column of the cursor, which are in the fresh lines by now.
+func (t *terminal) tellReset() { t.tell(t.here(api.EvReset)) }
+
 // tellFeed tells of a line feed, or of a wrap.
 func (t *terminal) tellFeed(wrap bool) {
 	e := t.here(api.EvStraight)

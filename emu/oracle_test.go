@@ -121,7 +121,7 @@ func (p *paper) down(to, n int) {
 
 // tell puts down an event of the cursor's line and column.
 func (p *paper) tell(e api.Event) {
-	if e.Kind != api.EvReset && e.Kind != api.EvJoin {
+	if e.Kind != api.EvJoin {
 		e.Line, e.Col = p.line().ID, p.col
 	}
 	if e.Kind == api.EvPrint || e.Kind == api.EvJoin {

@@ -357,7 +357,12 @@ func TestEvents(t *testing.T) {
 		{2, 3, "\n\x1bM", "straight 2:0 fresh; other 1:0"},
 		{2, 3, "a\x1b8", "print 1:0 #0 61 blank; other 1:0"},
 		{2, 3, "a\x1b7\n\x1b8", "print 1:0 #0 61 blank; straight 2:1 fresh; other 1:1"},
-		{2, 3, "a\x1bcb", "print 1:0 #0 61 blank; reset 0:0; print 3:0 #1 62 blank"},
+		{2, 3, "a\x1bcb", "print 1:0 #0 61 blank; reset 3:0; print 3:0 #1 62 blank"},
+		{1, 1, "\x1bc", "reset 2:0"},
+		{1, 1, "\x1bc\x1bc", "reset 2:0; reset 3:0"},
+		{1, 1, "a\x1bc\u0301", "print 1:0 #0 61 blank; reset 2:0"},
+		{3, 3, "\x1b[2;3r\x1b[?6h\x1b[3;3H\x1bc", "other 1:0; other 2:0; other 3:2; reset 4:0"},
+		{2, 3, "\x1b[?47h\x1b[2;2H\x1bc\x1b[?47l", "other 3:0; other 4:1; reset 5:0"},
 		{2, 3, "a\x1b(0\x1b)A\x1b(B", "print 1:0 #0 61 blank"},
 
 		// Control functions.
