@@ -11,7 +11,8 @@ import (
 )
 
 // TestFollows: what is appended lands on blanks while the frontier is on, and
-// behind an EvOther nothing is, till a fresh line or a reset comes.
+// behind an EvOther, or a join that is not of the last print, nothing is, till
+// a fresh line or a reset comes.
 func TestFollows(t *testing.T) {
 	draw := rand.New(rand.NewSource(151))
 	appended := 0
@@ -21,7 +22,7 @@ func TestFollows(t *testing.T) {
 			x, was := drawn(draw), f.On()
 			kind := x.to(f)
 			switch {
-			case x.e.Kind == api.EvOther:
+			case x.e.Kind == api.EvOther, x.e.Kind == api.EvJoin && !x.e.Last:
 				shut = true
 			case x.e.Kind == api.EvReset, x.e.Kind == api.EvStraight && x.e.Fresh:
 				shut = false
@@ -117,6 +118,16 @@ func TestOnAScreen(t *testing.T) {
 		{"ab\x1b[3;1Hx\ny", "aara", true},
 		{"a\u0301", "aa", true},
 		{"ab\x1b[H\u0301x\u0301", "aarr", false},
+		{"ab\u0301\u0302x", "aaaaa", true},
+		{"ab\x1b[1m\u0301x", "aaaa", true},
+		{"ab\t\u0301x", "aarr", false},
+		{"ab\t\u0301\r\nx", "aara", true},
+		{"ab\n\u0301x", "aarr", false},
+		{"ab\n\u0301\u0302x\nx", "aarara", true},
+		{"ab\r\n\u0301x", "aaa", true},
+		{"ab\x1bc\t\u0301x", "aarr", false},
+		{"\t\u0301x", "rr", false},
+		{"\t\u0301\x1bcx", "ra", true},
 		{"ab\x1b[2J\x1bcx", "aaa", true},
 		{"abcdefghij", "aaaaaaaaaa", true},
 		{"\x1b[2;1Hx\x1b[1;7Hyyz", "rrrr", false},

@@ -65,12 +65,12 @@ var states = []struct {
 	joined uint8
 	ways   string
 }{
-	{true, api.KindRedraw, " r of or pr Pr er Er ojr Prf orf 0 6 s j sJ Pf EfPf oPf opf orPf"},
-	{false, api.KindRedraw, "o ro pro ero so oj P oP op osP orP ePj Poj Prop"},
-	{true, api.KindEcho, "e pe ej re Ef Eof oef ofe oEf Prfe ee pfe e0 e6 es"},
-	{false, api.KindEcho, "E eo oe oE Eo pE oEe Ej EJ Es E0 ej6o"},
-	{true, api.KindAppend, "p ep Pfp Efp orp pj pJ rp pp fp pof psf ps p0 p6"},
-	{false, api.KindAppend, "po ppo pjo poj poJ pos po0 ofpo ppjjo"},
+	{true, api.KindRedraw, " r of or pr Pr er Er ojr Prf orf 0 6 s jf Jf jr Jr jsf prJf prjf Pf EfPf oPf opf orPf Jpf PJf Pjf"},
+	{false, api.KindRedraw, "o ro pro ero so oj P oP op osP orP ePj Poj Prop j J sj sJ fj fJ rj prj erJ j0 J6 js Js jj jp Jp PJ jPj pJp"},
+	{true, api.KindEcho, "e pe ej re Ef Eof oef ofe oEf Prfe ee pfe e0 e6 es eJf jef Jfe eJrfe jre"},
+	{false, api.KindEcho, "E eo oe oE Eo pE oEe Ej EJ Es E0 ej6o eJ eJs eJj pJe je Je rJe prje"},
+	{true, api.KindAppend, "p ep Pfp Efp orp pj rp pp fp pof psf ps p0 p6 pJf pjJf jfp Jfp jrp eJfp pJrp prjfp"},
+	{false, api.KindAppend, "po ppo pjo poj poJ pos po0 ofpo ppjjo pJ epJ pjJ pJj pJJ pJs pJ0 pfJ psJ jfpJ"},
 }
 
 // fresh is a frontier that some events were fed to, each kind and On held.
@@ -200,7 +200,7 @@ func TestPrint(t *testing.T) {
 			}
 			for range 3 {
 				if got := event('j').to(f); got != x.kind || f.On() != x.to {
-					t.Errorf("%q, %c: a join behind it is %d, not %d", way, x.letter, got, x.kind)
+					t.Errorf("%q, %c: a join behind it is %d %v, not %d %v", way, x.letter, got, f.On(), x.kind, x.to)
 				}
 			}
 		}
@@ -211,21 +211,76 @@ func TestPrint(t *testing.T) {
 func TestJoin(t *testing.T) {
 	tellAll(t, [][3]string{
 		// No print has come yet.
-		{"j", "r", "+"}, {"J", "r", "+"}, {"jj", "rr", "++"}, {"oj", ".r", "--"}, {"sj", ".r", "++"}, {"rj", ".r", "++"}, {"ofj", "..r", "-++"},
+		{"j", "r", "-"}, {"J", "r", "-"}, {"jj", "rr", "--"}, {"oj", ".r", "--"}, {"sj", ".r", "+-"}, {"rj", ".r", "+-"}, {"ofj", "..r", "-+-"}, {"fj", ".r", "+-"}, {"0J", ".r", "+-"},
 		// Behind a print of each kind, two of them, too.
-		{"pj", "aa", "++"}, {"pJ", "ar", "++"}, {"pjj", "aaa", "+++"}, {"pJj", "ara", "+++"}, {"pjJ", "aar", "+++"}, {"pJJ", "arr", "+++"},
-		{"ej", "ee", "++"}, {"eJ", "er", "++"}, {"ejj", "eee", "+++"}, {"eJj", "ere", "+++"}, {"ejJ", "eer", "+++"},
+		{"pj", "aa", "++"}, {"pJ", "ar", "+-"}, {"pjj", "aaa", "+++"}, {"pJj", "ara", "+--"}, {"pjJ", "aar", "++-"}, {"pJJ", "arr", "+--"},
+		{"ej", "ee", "++"}, {"eJ", "er", "+-"}, {"ejj", "eee", "+++"}, {"eJj", "ere", "+--"}, {"ejJ", "eer", "++-"},
 		{"Ej", "ee", "--"}, {"EJ", "er", "--"}, {"oej", ".ee", "---"},
 		{"Pj", "rr", "--"}, {"PJ", "rr", "--"}, {"Pjj", "rrr", "---"}, {"opj", ".rr", "---"},
 		// Behind a print, and what is no print.
 		{"poj", "a.a", "+--"}, {"psj", "a.a", "+++"}, {"pfj", "a.a", "+++"}, {"p0j", "a.a", "+++"}, {"p6j", "a.a", "+++"},
 		{"eoj", "e.e", "+--"}, {"Efj", "e.e", "-++"}, {"Pfj", "r.r", "-++"}, {"poJ", "a.r", "+--"},
+		{"psJ", "a.r", "++-"}, {"pfJ", "a.r", "++-"}, {"EfJ", "e.r", "-+-"}, {"PfJ", "r.r", "-+-"}, {"pofJ", "a..r", "+-+-"},
 		// Behind a print, and a reset.
-		{"prj", "a.r", "+++"}, {"erj", "e.r", "+++"}, {"Erj", "e.r", "-++"}, {"Prj", "r.r", "-++"}, {"pjrj", "aa.r", "++++"}, {"projj", "a..rr", "++---"},
-		{"prpj", "a.aa", "++++"}, {"prej", "a.ee", "++++"}, {"erpj", "e.aa", "++++"}, {"prrj", "a..r", "++++"}, {"prJ", "a.r", "+++"},
+		{"prj", "a.r", "++-"}, {"erj", "e.r", "++-"}, {"Erj", "e.r", "-+-"}, {"Prj", "r.r", "-+-"}, {"pjrj", "aa.r", "+++-"}, {"projj", "a..rr", "++---"},
+		{"prpj", "a.aa", "++++"}, {"prej", "a.ee", "++++"}, {"erpj", "e.aa", "++++"}, {"prrj", "a..r", "+++-"}, {"prJ", "a.r", "++-"},
 		// Behind two prints: the last one counts.
 		{"pej", "aee", "+++"}, {"epj", "eaa", "+++"}, {"pPj", "arr", "+--"}, {"Pej", "ree", "---"}, {"ePj", "err", "+--"}, {"Pfpj", "r.aa", "-+++"}, {"pEj", "aee", "+--"},
 		{"pjej", "aaee", "++++"}, {"ejpj", "eeaa", "++++"}, {"pjPj", "aarr", "++--"},
+	})
+}
+
+// TestBehindAJoin: what comes behind a join that has turned the frontier off,
+// told outright.
+func TestBehindAJoin(t *testing.T) {
+	tellAll(t, [][3]string{
+		// Prints: none is appended, and a join of one is as it is.
+		{"jp", "rr", "--"}, {"Jp", "rr", "--"}, {"pJp", "arr", "+--"}, {"eJp", "err", "+--"}, {"prjp", "a.rr", "++--"}, {"JP", "rr", "--"},
+		{"je", "re", "--"}, {"Je", "re", "--"}, {"pJe", "are", "+--"}, {"eJE", "ere", "+--"},
+		{"pJpj", "arrr", "+---"}, {"pJej", "aree", "+---"}, {"Jpj", "rrr", "---"}, {"jej", "ree", "---"},
+		// A fresh line or a reset turns it on again, all else does not.
+		{"jfp", "r.a", "-++"}, {"Jfp", "r.a", "-++"}, {"pJfp", "ar.a", "+-++"}, {"eJfe", "er.e", "+-++"}, {"JfJfp", "r.r.a", "-+-++"},
+		{"jrp", "r.a", "-++"}, {"Jrp", "r.a", "-++"}, {"pJrp", "ar.a", "+-++"}, {"prjrp", "a.r.a", "++-++"},
+		{"jsp", "r.r", "---"}, {"Jsp", "r.r", "---"}, {"pJsp", "ar.r", "+---"}, {"J0p", "r.r", "---"}, {"j6p", "r.r", "---"}, {"Jop", "r.r", "---"},
+		// The last print stays the one that it was, till a reset.
+		{"pJfj", "ar.a", "+-++"}, {"eJfj", "er.e", "+-++"}, {"pJoj", "ar.a", "+---"}, {"pJrj", "ar.r", "+-+-"}, {"jfj", "r.r", "-+-"}, {"JrJ", "r.r", "-+-"},
+	})
+}
+
+// TestJoinInEachState: both rows of joins, with the frontier on and off ahead
+// of them, and what a print, a fresh line and a reset behind them are.
+func TestJoinInEachState(t *testing.T) {
+	each(func(on bool, joined uint8, way string) {
+		ahead := written(way)
+		for _, letter := range []rune{'j', 'J'} {
+			kind, to := api.KindRedraw, false
+			if letter == 'j' && ahead.print() >= 0 {
+				kind, to = joined, on
+			}
+			f := fresh(t, ahead)
+			if got := event(letter).to(f); got != kind || f.On() != to {
+				t.Errorf("%q, %c: %d %v, not %d %v", way, letter, got, f.On(), kind, to)
+			}
+			if got := event('j').to(f.Copy()); got != joined {
+				t.Errorf("%q, %c: the last print is %d, not %d", way, letter, got, joined)
+			}
+			put := api.KindRedraw
+			if to {
+				put = api.KindAppend
+			}
+			if twin := f.Copy(); event('p').to(twin) != put || twin.On() != to {
+				t.Errorf("%q, %c: a print behind it is not %d", way, letter, put)
+			}
+			if twin := f.Copy(); event('e').to(twin) != api.KindEcho || twin.On() != to {
+				t.Errorf("%q, %c: an echo behind it does not leave it as it was", way, letter)
+			}
+			for _, again := range []rune{'f', 'r'} {
+				twin := f.Copy()
+				if event(again).to(twin); !twin.On() || event('p').to(twin) != api.KindAppend {
+					t.Errorf("%q, %c: %c does not turn it on", way, letter, again)
+				}
+			}
+		}
 	})
 }
 

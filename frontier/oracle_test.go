@@ -33,12 +33,16 @@ func (t tale) String() string {
 func (t tale) and(more ...fed) tale { return append(append(tale(nil), t...), more...) }
 
 // on looks back for what has turned the frontier on or off last: a print on
-// blanks leaves it as it was.
+// blanks leaves it as it was, and so does a join of the last print.
 func (t tale) on() bool {
 	for i := len(t) - 1; i >= 0; i-- {
 		switch e := t[i].e; e.Kind {
 		case api.EvPrint:
 			if !e.Blank {
+				return false
+			}
+		case api.EvJoin:
+			if !e.Last || t[:i].print() < 0 {
 				return false
 			}
 		case api.EvStraight:

@@ -29,10 +29,13 @@ func (f *Front) takePrint(e api.Event, echo bool) uint8 {
 	return f.last
 }
 
+// takeJoin leaves the frontier as it was for a mark of the last print alone:
+// any other one has changed what stood on the screen, as a redraw does.
 func (f *Front) takeJoin(e api.Event, _ bool) uint8 {
 	if e.Last && f.last != api.KindNone {
 		return f.last
 	}
+	f.off = true
 	return api.KindRedraw
 }
 
